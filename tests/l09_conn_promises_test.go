@@ -590,34 +590,38 @@ func byteLists(r impl.ConnResult) (out [][]byte) {
 	return out
 }
 
-// No two lists of one answer share memory, not even the room behind them: each is filled with a number of its own, and keeps it.
+// checkListsApart holds that no two lists of one answer share memory, not even the room behind them: each is filled with a number of its own, and keeps it.
+func checkListsApart(t *testing.T, what string, got impl.ConnResult) {
+	t.Helper()
+	lists := byteLists(got)
+	for i, list := range lists {
+		copy(list, bytes.Repeat([]byte{byte(i)}, len(list)))
+	}
+	for i, list := range lists {
+		if !bytes.Equal(list, bytes.Repeat([]byte{byte(i)}, len(list))) {
+			t.Fatalf("%s: the list %d of bytes shares memory with another one", what, i)
+		}
+	}
+	for i, x := range got.Conn.Subs {
+		for k := range x.Send.Flights[:cap(x.Send.Flights)] {
+			x.Send.Flights[:cap(x.Send.Flights)][k] = impl.Flight{At: int64(i)}
+		}
+		for k := range x.Catch.Spans[:cap(x.Catch.Spans)] {
+			x.Catch.Spans[:cap(x.Catch.Spans)][k] = span(int64(i), 0)
+		}
+	}
+	for i, x := range got.Conn.Subs {
+		isOther := func(f impl.Flight) bool { return f.At != int64(i) }
+		if slices.ContainsFunc(x.Send.Flights, isOther) || slices.ContainsFunc(x.Catch.Spans, func(s impl.Span) bool { return s.From != int64(i) }) {
+			t.Fatalf("%s: the sub %d shares memory with another one", what, i)
+		}
+	}
+}
+
 func TestPromise1ListsOfOneConnAreApart(t *testing.T) {
 	for _, c := range append(rightConns(), drawnConns(100)...) {
 		for name, call := range connsOf(c, []byte("xyz")) {
-			got := call()
-			lists := byteLists(got)
-			for i, list := range lists {
-				copy(list, bytes.Repeat([]byte{byte(i)}, len(list)))
-			}
-			for i, list := range lists {
-				if !bytes.Equal(list, bytes.Repeat([]byte{byte(i)}, len(list))) {
-					t.Fatalf("%s of %+v: the list %d of bytes shares memory with another one", name, c, i)
-				}
-			}
-			for i, x := range got.Conn.Subs {
-				for k := range x.Send.Flights[:cap(x.Send.Flights)] {
-					x.Send.Flights[:cap(x.Send.Flights)][k] = impl.Flight{At: int64(i)}
-				}
-				for k := range x.Catch.Spans[:cap(x.Catch.Spans)] {
-					x.Catch.Spans[:cap(x.Catch.Spans)][k] = span(int64(i), 0)
-				}
-			}
-			for i, x := range got.Conn.Subs {
-				isOther := func(f impl.Flight) bool { return f.At != int64(i) }
-				if slices.ContainsFunc(x.Send.Flights, isOther) || slices.ContainsFunc(x.Catch.Spans, func(s impl.Span) bool { return s.From != int64(i) }) {
-					t.Fatalf("%s of %+v: the sub %d shares memory with another one", name, c, i)
-				}
-			}
+			checkListsApart(t, name, call())
 		}
 	}
 }
