@@ -41,8 +41,11 @@ func checkKept(t *testing.T, c impl.Conn, g impl.Segment, now int64) impl.ConnRe
 		if x.Path != g.Path && !sameSub(x, y) {
 			t.Fatalf("%+v turns another path: %+v was %+v", g, y, x)
 		}
-		if y.State < x.State || x.State == impl.SubOpen && (y.Catch.Start != x.Catch.Start || y.Catch.Next < x.Catch.Next) {
+		if y.State < x.State || x.State == impl.SubOpen && y.Catch.Start != x.Catch.Start {
 			t.Fatalf("%+v makes %+v of %+v", g, y, x)
+		}
+		if y.Catch.Next < x.Catch.Next || impl.CaughtOf(y.Catch).Value < impl.CaughtOf(x.Catch).Value {
+			t.Fatalf("%+v takes back what was seen by %+v: %+v", g, x, y)
 		}
 	}
 	checkSent(t, got, g)

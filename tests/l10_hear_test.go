@@ -174,11 +174,11 @@ func hearSynAckModel(out *impl.ConnResult, g impl.Segment, k int) {
 	switch {
 	case x.State == 1 && g.Ack != x.Send.Start:
 	case x.State == 1 && !x.Join:
-		x.State, x.Catch = 3, impl.Catch{Start: g.Seq}
+		x.State, x.Catch.Start = 3, g.Seq
 		peerModel(c, g)
 		out.Send = []impl.Segment{tellModel(*c, g.Path).Segment}
 	case x.State == 1 && g.Opt == 3 && g.A == mixModel(c.Peer, c.Key, x.Nonce):
-		x.State, x.Catch, x.Other, c.Free = 3, impl.Catch{Start: g.Seq}, g.B, true
+		x.State, x.Catch.Start, x.Other, c.Free = 3, g.Seq, g.B, true
 		out.Send = []impl.Segment{proveModel(*c, g.Path).Segment}
 	case x.State == 1:
 		*x = closeModel(*x).Sub
@@ -761,11 +761,11 @@ func TestHearConnAnswersFirst(t *testing.T) {
 	}
 	opened := func(peer int64, plain bool) func(c *impl.Conn) {
 		return func(c *impl.Conn) {
-			c.Peer, c.Plain, c.Subs[0].State, c.Subs[0].Catch = peer, plain, open, impl.Catch{Start: 900}
+			c.Peer, c.Plain, c.Subs[0].State, c.Subs[0].Catch.Start = peer, plain, open, 900
 		}
 	}
-	told := []impl.Segment{{Path: 1, Ackd: true, Seq: 65531, Ack: 900, Opt: impl.OptMap, A: 6}}
-	bare := []impl.Segment{{Path: 1, Ackd: true, Seq: 65531, Ack: 900}}
+	told := []impl.Segment{{Path: 1, Ackd: true, Seq: 65531, Ack: 905, Opt: impl.OptMap, A: 6}}
+	bare := []impl.Segment{{Path: 1, Ackd: true, Seq: 65531, Ack: 905}}
 	refused := []impl.Segment{{Path: 1, Rst: true, Seq: 65531, Ack: 900}}
 	there := connAt(0, pathsOf(1, open)...)
 	thereTold := []impl.Segment{{Path: 1, Ackd: true, Seq: (65531 + 10) % 65536, Ack: 12, Opt: impl.OptMap, A: 6}}
@@ -792,17 +792,46 @@ func TestHearConnAnswersFirst(t *testing.T) {
 	})
 }
 
-// A catch that begins at a number has seen nothing, whatever was there while the path was asked for.
+// beganCatches are what the catch of a path may have seen while it was asked for.
+func beganCatches() []impl.Catch {
+	return append(lateCatches(),
+		catchWith(7, 0), catchWith(7, 3), catchWith(7, 1000000), catchWith(7, 3, span(5, 9)), catchWith(7, 0, span(1, 2)),
+		catchWith(7, 5, span(8, 10), span(12, 13)), catchWith(65535, 65536), spanComb(7, 0, 20, 1, 1), spanComb(7, 40, 20, 3, 2))
+}
+
+// Where the catch of a path begins is told by who answers; what it had seen by then stays, for a Join and for the first path.
 func TestHearConnAnswersBeginTheCatch(t *testing.T) {
-	first := connAt(0, pathsOf(1, impl.SubAsked)...)
-	joined := connAt(0, pathsOf(2, impl.SubOpen, impl.SubClosed, impl.SubAsked)...)
-	for _, seq := range []int64{0, 7, 12, 65535} {
-		key := impl.HearConn(first, impl.Segment{Path: 1, From: 1, Syn: true, Ackd: true, Seq: seq, Ack: 65531, Opt: impl.OptKey, A: 9}, 6)
-		proof := impl.HearConn(joined, impl.Segment{Path: 1, From: 1, Syn: true, Ackd: true, Seq: seq, Ack: 65531, Opt: impl.OptProof, A: mixModel(7, 5, 3)}, 6)
-		for _, x := range []impl.Sub{key.Conn.Subs[0], proof.Conn.Subs[2]} {
-			if x.State != impl.SubOpen || !sameCatch(x.Catch, impl.StartCatch(seq).Catch) {
-				t.Errorf("at %d begins %+v", seq, x)
+	for _, was := range beganCatches() {
+		first := with(connAt(0, pathsOf(1, impl.SubAsked)...), func(c *impl.Conn) { c.Subs[0].Catch = was })
+		joined := with(connAt(0, pathsOf(2, impl.SubOpen, impl.SubClosed, impl.SubAsked)...), func(c *impl.Conn) { c.Subs[2].Catch = was })
+		for _, seq := range []int64{0, 7, 12, 20, 65535} {
+			g := impl.Segment{Path: 1, From: 1, Syn: true, Ackd: true, Seq: seq, Ack: 65531}
+			key := impl.HearConn(first, withOption(g, option{impl.OptKey, 9, 0, false}), 6)
+			plain := impl.HearConn(first, g, 6)
+			proof := impl.HearConn(joined, withOption(g, option{impl.OptProof, mixModel(7, 5, 3), 8, false}), 6)
+			for _, got := range []impl.ConnResult{key, plain, proof} {
+				x := got.Conn.Subs[len(got.Conn.Subs)-1]
+				if x.State != impl.SubOpen || x.Catch.Start != seq || x.Catch.Next != was.Next || !slices.Equal(x.Catch.Spans, was.Spans) {
+					t.Errorf("%+v at %d begins %+v", was, seq, x.Catch)
+				}
+				if len(got.Send) != 1 || got.Send[0].Ack != (seq+was.Next)%65536 || impl.ConnFault(got.Conn) != impl.OK {
+					t.Errorf("%+v at %d is answered by %+v", was, seq, got.Send)
+				}
 			}
+			if !sameResult(impl.TellSegment(key.Conn, 1), impl.SegmentResult{Segment: key.Send[0]}) || !sameResult(impl.ProveSegment(proof.Conn, 1), impl.SegmentResult{Segment: proof.Send[0]}) {
+				t.Errorf("%+v at %d tells %+v, proves %+v", was, seq, key.Send, proof.Send)
+			}
+		}
+	}
+}
+
+// The catch of a Join that is not proved stays as it is, too: where it begins was told by nobody who may.
+func TestHearConnNotProvedCatchStays(t *testing.T) {
+	for _, was := range beganCatches() {
+		c := with(connAt(0, pathsOf(2, impl.SubOpen, impl.SubAsked)...), func(c *impl.Conn) { c.Subs[1].Catch = was })
+		g := impl.Segment{Path: 0, From: 1, Syn: true, Ackd: true, Seq: 20, Ack: 65530, Opt: impl.OptProof, A: mixModel(7, 5, 3) + 1, B: 8}
+		if x := impl.HearConn(c, g, 6).Conn.Subs[1]; x.State != impl.SubClosed || !sameCatch(x.Catch, was) {
+			t.Errorf("%+v became %+v", was, x)
 		}
 	}
 }
@@ -817,11 +846,11 @@ func TestHearConnAnswersJoin(t *testing.T) {
 	opened := func(other int64) func(c *impl.Conn) {
 		return func(c *impl.Conn) {
 			x := &c.Subs[1]
-			c.Free, x.State, x.Catch, x.Other = true, open, impl.Catch{Start: 900}, other
+			c.Free, x.State, x.Catch.Start, x.Other = true, open, 900, other
 		}
 	}
 	proved := func(other int64) []impl.Segment {
-		return []impl.Segment{{Path: 2, Ackd: true, Seq: 65532, Ack: 900, Opt: impl.OptProof, A: mixModel(5, 7, other)}}
+		return []impl.Segment{{Path: 2, Ackd: true, Seq: 65532, Ack: 905, Opt: impl.OptProof, A: mixModel(5, 7, other)}}
 	}
 	refused := []impl.Segment{{Path: 2, Rst: true, Seq: 65532, Ack: 900}}
 	there := with(connAt(0, pathsOf(1, open, open)...), func(c *impl.Conn) { c.Free, c.Fin = true, true })
@@ -841,7 +870,7 @@ func TestHearConnAnswersJoin(t *testing.T) {
 		{"the option vanished", c, answer(900, 65532, impl.OptNone, 0, 0), shutSub(1), refused},
 		{"proved, Ack 1 below", c, answer(900, 65531, impl.OptProof, good, 44), nil, nil},
 		{"not proved, Ack 1 above", c, answer(900, 65533, impl.OptNone, 0, 0), nil, nil},
-		{"Peer not known, proved by none", unknown, answer(900, 65532, impl.OptProof, mixModel(0, 5, 3), 44), func(c *impl.Conn) { opened(44)(c) }, []impl.Segment{{Path: 2, Ackd: true, Seq: 65532, Ack: 900, Opt: impl.OptProof, A: mixModel(5, 0, 44)}}},
+		{"Peer not known, proved by none", unknown, answer(900, 65532, impl.OptProof, mixModel(0, 5, 3), 44), func(c *impl.Conn) { opened(44)(c) }, []impl.Segment{{Path: 2, Ackd: true, Seq: 65532, Ack: 905, Opt: impl.OptProof, A: mixModel(5, 0, 44)}}},
 		{"closed", connAt(0, pathsOf(1, open, closed)...), answer(900, 65532, impl.OptProof, good, 44), nil, refused},
 		{"open, told again", there, answer(7, 65532, impl.OptProof, good, 44), nil, thereProved},
 		{"open, told again without the proof", there, answer(7, 1, impl.OptNone, 0, 0), nil, thereProved},
