@@ -665,21 +665,27 @@ func someWorlds() []impl.World {
 	return slices.Concat(rightWorlds(60, 1420), wrong, []impl.World{plainWorld(), {}})
 }
 
-func TestPromise1WorldsAreNotChanged(t *testing.T) {
-	for _, w := range someWorlds() {
+// worldCalls are calls that answer a world, by name: of a world, and of data to write.
+type worldCalls func(w impl.World, data []byte) map[string]func() impl.WorldResult
+
+// checkNothingChanged asks the faults, too, which every call asks first.
+func checkNothingChanged(t *testing.T, calls worldCalls, worlds []impl.World) {
+	t.Helper()
+	for _, w := range worlds {
 		k := keepWorld(w, []byte("xyz"))
 		impl.WorldFault(k.w)
-		for name, call := range worldsOf(k.w, k.data) {
+		for name, call := range calls(k.w, k.data) {
 			call()
 			k.check(t, name)
 		}
 	}
 }
 
-func TestPromise1WorldsAreNewMemory(t *testing.T) {
-	for _, w := range someWorlds() {
+func checkNewMemory(t *testing.T, calls worldCalls, worlds []impl.World) {
+	t.Helper()
+	for _, w := range worlds {
 		k := keepWorld(w, []byte("xyz"))
-		for name, call := range worldsOf(k.w, k.data) {
+		for name, call := range calls(k.w, k.data) {
 			got := call()
 			was := cloneWorlds(got)
 			spoilWorlds(got)
@@ -691,15 +697,13 @@ func TestPromise1WorldsAreNewMemory(t *testing.T) {
 	}
 }
 
-// The other way round: an answer stays as it is where an argument is written over.
-func TestPromise1WorldsStayWhereArgumentsTurn(t *testing.T) {
-	for i, w := range someWorlds() {
-		if i%2 == 0 {
-			continue
-		}
-		for name := range worldsOf(w, nil) {
+// checkStay looks the other way round: an answer stays as it is where an argument is written over.
+func checkStay(t *testing.T, calls worldCalls, worlds []impl.World) {
+	t.Helper()
+	for _, w := range worlds {
+		for name := range calls(w, nil) {
 			k := keepWorld(w, []byte("xyz"))
-			got := worldsOf(k.w, k.data)[name]()
+			got := calls(k.w, k.data)[name]()
 			was := cloneWorlds(got)
 			k.spoilAll()
 			if !sameWorlds(got, was) {
@@ -707,6 +711,62 @@ func TestPromise1WorldsStayWhereArgumentsTurn(t *testing.T) {
 			}
 		}
 	}
+}
+
+// checkSameAgain calls all of all worlds, and then all again in another order, whatever was called meanwhile.
+func checkSameAgain(t *testing.T, calls worldCalls, worlds []impl.World) {
+	t.Helper()
+	var first []map[string]impl.WorldResult
+	for _, w := range worlds {
+		row := map[string]impl.WorldResult{}
+		for name, call := range calls(w, []byte("xyz")) {
+			row[name] = call()
+			spoilWorlds(call())
+		}
+		first = append(first, row)
+	}
+	for range 2 {
+		for i := len(worlds) - 1; i >= 0; i-- {
+			for name, call := range calls(worlds[i], []byte("xyz")) {
+				if again := call(); !sameWorlds(again, first[i][name]) {
+					t.Fatalf("%s of %+v = %+v, then %+v", name, worlds[i], first[i][name], again)
+				}
+			}
+		}
+	}
+}
+
+// checkEmptyAndNil holds that nil and an empty list are the same value, wherever a list comes in.
+func checkEmptyAndNil(t *testing.T, calls worldCalls, worlds []impl.World) {
+	t.Helper()
+	for _, w := range worlds {
+		others := calls(emptiedWorld(w, false), []byte{})
+		for name, call := range calls(emptiedWorld(w, true), nil) {
+			if x, y := call(), others[name](); !sameWorlds(x, y) {
+				t.Fatalf("%s of %+v tells nil and an empty list apart: %+v, %+v", name, w, x, y)
+			}
+		}
+	}
+}
+
+// everySecond has the worlds from that one on, and leaves one out each time.
+func everySecond(worlds []impl.World, from int) (out []impl.World) {
+	for i := from; i < len(worlds); i += 2 {
+		out = append(out, worlds[i])
+	}
+	return out
+}
+
+func TestPromise1WorldsAreNotChanged(t *testing.T) {
+	checkNothingChanged(t, worldsOf, someWorlds())
+}
+
+func TestPromise1WorldsAreNewMemory(t *testing.T) {
+	checkNewMemory(t, worldsOf, someWorlds())
+}
+
+func TestPromise1WorldsStayWhereArgumentsTurn(t *testing.T) {
+	checkStay(t, worldsOf, everySecond(someWorlds(), 1))
 }
 
 // sharingWorlds have lists that are one memory, or two parts of one: what was got and what came in, one side and the other, and a segment twice.
@@ -785,31 +845,11 @@ func TestPromise1WhatWasHeardIsApart(t *testing.T) {
 }
 
 func TestPromise1WorldsSameArgumentsSameAnswers(t *testing.T) {
-	var worlds []impl.World
-	for i, w := range someWorlds() {
-		if i%2 == 0 {
-			worlds = append(worlds, w)
-		}
-	}
-	var first []map[string]impl.WorldResult
+	worlds := everySecond(someWorlds(), 0)
+	checkSameAgain(t, worldsOf, worlds)
 	for _, w := range worlds {
-		row := map[string]impl.WorldResult{}
-		for name, call := range worldsOf(w, []byte("xyz")) {
-			row[name] = call()
-			spoilWorlds(call())
-		}
-		first = append(first, row)
-	}
-	for range 2 {
-		for i := len(worlds) - 1; i >= 0; i-- {
-			if impl.WorldFault(worlds[i]) != worldFaultModel(worlds[i]) {
-				t.Fatalf("%+v has another fault than it had", worlds[i])
-			}
-			for name, call := range worldsOf(worlds[i], []byte("xyz")) {
-				if again := call(); !sameWorlds(again, first[i][name]) {
-					t.Fatalf("%s of %+v = %+v, then %+v", name, worlds[i], first[i][name], again)
-				}
-			}
+		if impl.WorldFault(w) != worldFaultModel(w) {
+			t.Fatalf("%+v has another fault than it had", w)
 		}
 	}
 }
@@ -826,18 +866,12 @@ func emptiedWorld(w impl.World, isNil bool) impl.World {
 	return out
 }
 
-// nil and an empty list are the same value, wherever a list comes in.
 func TestPromise1EmptyWorldsAndNil(t *testing.T) {
-	for _, w := range append(someWorlds(), impl.NewWorld(5, 7).World) {
-		a, b := emptiedWorld(w, true), emptiedWorld(w, false)
-		if impl.WorldFault(a) != impl.WorldFault(b) {
+	worlds := append(someWorlds(), impl.NewWorld(5, 7).World)
+	checkEmptyAndNil(t, worldsOf, worlds)
+	for _, w := range worlds {
+		if a, b := emptiedWorld(w, true), emptiedWorld(w, false); impl.WorldFault(a) != impl.WorldFault(b) {
 			t.Fatalf("%+v and %+v are told apart", a, b)
-		}
-		others := worldsOf(b, []byte{})
-		for name, call := range worldsOf(a, nil) {
-			if x, y := call(), others[name](); !sameWorlds(x, y) {
-				t.Fatalf("%s of %+v tells nil and an empty list apart: %+v, %+v", name, w, x, y)
-			}
 		}
 	}
 }

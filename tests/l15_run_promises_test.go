@@ -570,7 +570,7 @@ func TestPromise16InTwoParts(t *testing.T) {
 // Promise 1, of the functions of the chapter.
 
 // runsOf are calls that answer a world: what changes nothing, what changes much, and what tells a code.
-func runsOf(w impl.World) map[string]func() impl.WorldResult {
+func runsOf(w impl.World, _ []byte) map[string]func() impl.WorldResult {
 	worldOfRun := func(run impl.RunResult) impl.WorldResult {
 		return impl.WorldResult{Code: run.Code, World: run.World}
 	}
@@ -599,12 +599,10 @@ func runWorlds() (out []impl.World) {
 }
 
 func TestPromise1RunsChangeNothing(t *testing.T) {
-	for _, w := range slices.Concat(runWorlds(), sharingWorlds()) {
+	worlds := slices.Concat(runWorlds(), sharingWorlds())
+	checkNothingChanged(t, runsOf, worlds)
+	for _, w := range worlds {
 		k := keepWorld(w, nil)
-		for name, call := range runsOf(k.w) {
-			call()
-			k.check(t, name)
-		}
 		impl.LivePaths(k.w)
 		impl.RoundsFor(k.w)
 		k.check(t, "what is told of a world")
@@ -612,17 +610,9 @@ func TestPromise1RunsChangeNothing(t *testing.T) {
 }
 
 func TestPromise1RunsAreNewMemory(t *testing.T) {
+	checkNewMemory(t, runsOf, runWorlds())
 	for _, w := range runWorlds() {
 		k := keepWorld(w, nil)
-		for name, call := range runsOf(k.w) {
-			got := call()
-			was := cloneWorlds(got)
-			spoilWorlds(got)
-			k.check(t, name+" was written over")
-			if again := call(); !sameWorlds(again, was) {
-				t.Fatalf("%s that was written over is told again: %+v, was %+v", name, again, was)
-			}
-		}
 		paths := impl.LivePaths(k.w)
 		was := slices.Clone(paths.List)
 		for i := range paths.List[:cap(paths.List)] {
@@ -635,61 +625,26 @@ func TestPromise1RunsAreNewMemory(t *testing.T) {
 	}
 }
 
-// The other way round: an answer stays as it is where an argument is written over.
 func TestPromise1RunsStayWhereArgumentsTurn(t *testing.T) {
-	for _, w := range runWorlds() {
-		for name := range runsOf(w) {
-			k := keepWorld(w, nil)
-			got := runsOf(k.w)[name]()
-			was := cloneWorlds(got)
-			k.spoilAll()
-			if !sameWorlds(got, was) {
-				t.Fatalf("%s of %+v turns with its arguments: %+v, was %+v", name, w, got, was)
-			}
-		}
-	}
+	checkStay(t, runsOf, runWorlds())
 }
 
 func TestPromise1ListsOfOneRunAreApart(t *testing.T) {
 	for _, w := range slices.Concat(sharingWorlds(), rightWorlds(20, 1510), []impl.World{calmWorld(false), readingWorld(0, 6, false)}) {
-		for name, call := range runsOf(w) {
+		for name, call := range runsOf(w, nil) {
 			checkWorldApart(t, name, call)
 		}
 	}
 }
 
 func TestPromise1RunsSameArgumentsSameAnswers(t *testing.T) {
-	worlds := runWorlds()
-	var first []map[string]impl.WorldResult
-	for _, w := range worlds {
-		row := map[string]impl.WorldResult{}
-		for name, call := range runsOf(w) {
-			row[name] = call()
-			spoilWorlds(call())
-		}
-		first = append(first, row)
-	}
-	for range 2 {
-		for i := len(worlds) - 1; i >= 0; i-- {
-			for name, call := range runsOf(worlds[i]) {
-				if again := call(); !sameWorlds(again, first[i][name]) {
-					t.Fatalf("%s of %+v = %+v, then %+v", name, worlds[i], first[i][name], again)
-				}
-			}
-		}
-	}
+	checkSameAgain(t, runsOf, runWorlds())
 }
 
-// nil and an empty list are the same value, wherever a list comes in.
 func TestPromise1EmptyRunsAndNil(t *testing.T) {
+	checkEmptyAndNil(t, runsOf, runWorlds())
 	for _, w := range runWorlds() {
 		a, b := emptiedWorld(w, true), emptiedWorld(w, false)
-		others := runsOf(b)
-		for name, call := range runsOf(a) {
-			if x, y := call(), others[name](); !sameWorlds(x, y) {
-				t.Fatalf("%s of %+v tells nil and an empty list apart: %+v, %+v", name, w, x, y)
-			}
-		}
 		if !sameInts(impl.LivePaths(a), impl.LivePaths(b)) || impl.RoundsFor(a) != impl.RoundsFor(b) {
 			t.Fatalf("what is told of %+v tells nil and an empty list apart", w)
 		}

@@ -216,7 +216,7 @@ func scriptTexts() []string {
 }
 
 // scriptsOf are calls that answer a world, with what is said as Data.
-func scriptsOf(w impl.World) map[string]func() impl.WorldResult {
+func scriptsOf(w impl.World, _ []byte) map[string]func() impl.WorldResult {
 	worldOfScript := func(r impl.ScriptResult) impl.WorldResult {
 		return impl.WorldResult{Code: r.Code, Data: []byte(r.Said), World: r.World}
 	}
@@ -241,44 +241,22 @@ func scriptWorlds() (out []impl.World) {
 }
 
 func TestPromise1ScriptsChangeNothing(t *testing.T) {
-	for _, w := range slices.Concat(scriptWorlds(), sharingWorlds()) {
+	worlds := slices.Concat(scriptWorlds(), sharingWorlds())
+	checkNothingChanged(t, scriptsOf, worlds)
+	for _, w := range worlds {
 		k := keepWorld(w, nil)
-		for name, call := range scriptsOf(k.w) {
-			call()
-			k.check(t, name)
-		}
 		impl.WorldText(k.w)
 		k.check(t, "WorldText")
 	}
 }
 
 func TestPromise1ScriptsAreNewMemory(t *testing.T) {
-	for _, w := range scriptWorlds() {
-		k := keepWorld(w, nil)
-		for name, call := range scriptsOf(k.w) {
-			got := call()
-			was := cloneWorlds(got)
-			spoilWorlds(got)
-			k.check(t, name+" was written over")
-			if again := call(); !sameWorlds(again, was) {
-				t.Fatalf("%s that was written over is told again: %+v, was %+v", name, again, was)
-			}
-		}
-	}
+	checkNewMemory(t, scriptsOf, scriptWorlds())
 }
 
-// The other way round: an answer stays as it is where an argument is written over.
 func TestPromise1ScriptsStayWhereArgumentsTurn(t *testing.T) {
+	checkStay(t, scriptsOf, scriptWorlds())
 	for _, w := range scriptWorlds() {
-		for name := range scriptsOf(w) {
-			k := keepWorld(w, nil)
-			got := scriptsOf(k.w)[name]()
-			was := cloneWorlds(got)
-			k.spoilAll()
-			if !sameWorlds(got, was) {
-				t.Fatalf("%s of %+v turns with its arguments: %+v, was %+v", name, w, got, was)
-			}
-		}
 		k := keepWorld(w, nil)
 		got, want := impl.WorldText(k.w), worldTextModel(w)
 		k.spoilAll()
@@ -290,7 +268,7 @@ func TestPromise1ScriptsStayWhereArgumentsTurn(t *testing.T) {
 
 func TestPromise1ListsOfOneScriptAreApart(t *testing.T) {
 	for _, w := range append(sharingWorlds(), doingWorld(), calmWorld(false), readingWorld(0, 6, false)) {
-		for name, call := range scriptsOf(w) {
+		for name, call := range scriptsOf(w, nil) {
 			checkWorldApart(t, name, call)
 		}
 	}
@@ -298,38 +276,18 @@ func TestPromise1ListsOfOneScriptAreApart(t *testing.T) {
 
 func TestPromise1ScriptsSameArgumentsSameAnswers(t *testing.T) {
 	worlds := scriptWorlds()
-	var first []map[string]impl.WorldResult
+	checkSameAgain(t, scriptsOf, worlds)
 	for _, w := range worlds {
-		row := map[string]impl.WorldResult{}
-		for name, call := range scriptsOf(w) {
-			row[name] = call()
-			spoilWorlds(call())
-		}
-		first = append(first, row)
-	}
-	for i := len(worlds) - 1; i >= 0; i-- {
-		if impl.WorldText(worlds[i]) != worldTextModel(worlds[i]) {
-			t.Fatalf("WorldText of %+v is another one than it was", worlds[i])
-		}
-		for name, call := range scriptsOf(worlds[i]) {
-			if again := call(); !sameWorlds(again, first[i][name]) {
-				t.Fatalf("%s of %+v = %+v, then %+v", name, worlds[i], first[i][name], again)
-			}
+		if impl.WorldText(w) != worldTextModel(w) {
+			t.Fatalf("WorldText of %+v is another one than it was", w)
 		}
 	}
 }
 
-// nil and an empty list are the same value, wherever a list comes in.
 func TestPromise1EmptyScriptsAndNil(t *testing.T) {
+	checkEmptyAndNil(t, scriptsOf, scriptWorlds())
 	for _, w := range scriptWorlds() {
-		a, b := emptiedWorld(w, true), emptiedWorld(w, false)
-		others := scriptsOf(b)
-		for name, call := range scriptsOf(a) {
-			if x, y := call(), others[name](); !sameWorlds(x, y) {
-				t.Fatalf("%s of %+v tells nil and an empty list apart: %+v, %+v", name, w, x, y)
-			}
-		}
-		if impl.WorldText(a) != impl.WorldText(b) {
+		if impl.WorldText(emptiedWorld(w, true)) != impl.WorldText(emptiedWorld(w, false)) {
 			t.Fatalf("WorldText of %+v tells nil and an empty list apart", w)
 		}
 	}
@@ -343,7 +301,7 @@ func TestPromise1ScriptsAnswerEverywhere(t *testing.T) {
 	checkAll := func(w impl.World) {
 		t.Helper()
 		fault := worldFaultModel(w)
-		for name, call := range scriptsOf(w) {
+		for name, call := range scriptsOf(w, nil) {
 			got := call()
 			if fault != impl.OK && got.Code != fault || got.Code != impl.OK && !sameWorlds(got, impl.WorldResult{Code: got.Code}) || got.Code == impl.OK && impl.WorldFault(got.World) != impl.OK {
 				t.Fatalf("%s of %+v = %+v", name, w, got)
@@ -398,7 +356,9 @@ func TestPromise1ScriptsOfAnyBytes(t *testing.T) {
 }
 
 func TestPromise1LettersAreNewMemory(t *testing.T) {
-	for _, data := range append(dataRows(), lettersOf(400), lettersOf(401), nil) {
+	// Bytes that are no letters are told as others, and stay themselves in the argument.
+	signs := slices.Repeat([]byte("aZ{`0\x00\xff "), 50)
+	for _, data := range append(dataRows(), lettersOf(400), lettersOf(401), signs, append(signs, 'A'), []byte("A"), nil) {
 		back, part := roomy(data)
 		kept := slices.Clone(back)
 		got := impl.LetterText(part)
